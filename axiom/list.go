@@ -3,7 +3,6 @@ package axiom
 import (
 	"granule/api"
 	"granule/desc"
-	"granule/regs"
 	"granule/tlb"
 	"granule/trace"
 	"granule/walk"
@@ -44,27 +43,26 @@ func (g *Graph) add(core, step int, v api.Event) {
 func (g *Graph) step(t api.Test, core, n int) {
 	s := &g.Steps[core][n]
 	g.first[core][n], g.act[core][n] = -1, -1
+	if !s.Acts() {
+		return
+	}
+	g.first[core][n] = len(g.Events)
+	g.walks(t.Cores[core].Table, core, n)
+	g.act[core][n] = len(g.Events)
 	switch {
-	case regs.Access(s.Instr):
-		g.first[core][n] = len(g.Events)
-		g.walks(t.Cores[core].Table, core, n)
-		g.act[core][n] = len(g.Events)
-		switch {
-		case s.Faults():
-			g.add(core, n, api.Event{Kind: api.EvFault})
-		case s.Reads():
-			g.add(core, n, api.Event{Kind: api.EvRead, Addr: s.Addr, Value: s.Value})
-		default:
-			g.add(core, n, api.Event{Kind: api.EvWrite, Addr: s.Addr, Value: s.Value})
-		}
 	case s.Instr.Op == api.Tlbi:
-		g.first[core][n], g.act[core][n] = len(g.Events), len(g.Events)
 		g.add(core, n, api.Event{Kind: api.EvTlbi})
 		for to := range t.Cores {
 			if to == core || s.Instr.Kind < api.TlbiHere {
 				g.add(core, n, api.Event{Kind: api.EvDrop, To: to})
 			}
 		}
+	case s.Faults():
+		g.add(core, n, api.Event{Kind: api.EvFault})
+	case s.Reads():
+		g.add(core, n, api.Event{Kind: api.EvRead, Addr: s.Addr, Value: s.Value})
+	default:
+		g.add(core, n, api.Event{Kind: api.EvWrite, Addr: s.Addr, Value: s.Value})
 	}
 }
 
