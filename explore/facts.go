@@ -1,0 +1,95 @@
+package explore
+
+import (
+	"maps"
+	"slices"
+
+	"granule/api"
+	"granule/field"
+	"granule/trace"
+)
+
+// sharers are the cores, a bit each, that read a cell, and that write it.
+type sharers struct {
+	reads  int
+	writes int
+}
+
+// facts are what a search may rely on: the pages that accesses go to, and which cores' accesses go to which cells. A search that finds more is done again with what it found, until it finds no more: nothing was relied on then that isn't so.
+type facts struct {
+	pages map[int]int
+	cells map[uint64]sharers
+}
+
+func noFacts() facts { return facts{pages: map[int]int{}, cells: map[uint64]sharers{}} }
+
+func (f facts) copy() facts { return facts{pages: maps.Clone(f.pages), cells: maps.Clone(f.cells)} }
+
+// size: how much is known. It only grows.
+func (f facts) size() int {
+	n := len(f.pages)
+	for _, x := range f.cells {
+		for k := range 64 {
+			n += x.reads>>k&1 + x.writes>>k&1
+		}
+	}
+	return n
+}
+
+// list: the pages, rising.
+func (f facts) list() []int { return slices.Sorted(maps.Keys(f.pages)) }
+
+// learn: what a core's window tells.
+func (f facts) learn(core int, w *trace.Window) {
+	for i := range w.Steps {
+		s := &w.Steps[i]
+		if !s.Placed {
+			continue
+		}
+		page := int(s.VA >> api.PageBits)
+		if f.pages[page] == 0 {
+			f.pages[page] = 1
+		}
+		if !s.Bound || s.Faults() {
+			continue
+		}
+		x := f.cells[s.Addr]
+		y := x
+		if s.Reads() {
+			y.reads |= 1 << core
+		} else {
+			y.writes |= 1 << core
+		}
+		if x != y {
+			f.cells[s.Addr] = y
+		}
+	}
+}
+
+// table is what a search knows of the tables by its facts: the cells that walks read, and whether first descriptors are written, so that these cells can't be told.
+type table struct {
+	cells   map[uint64]int
+	written bool
+}
+
+// slots: the cells of both descriptors of an address, if the first one isn't written, and leads to a table.
+func slots(t api.Test, core int, va uint64, begin func(uint64) uint64) (uint64, uint64) {
+	first := t.Cores[core].Table + 8*uint64(field.Slot(va, 1))
+	out := field.Get(begin(first), api.PABits-1, api.PageBits) << api.PageBits
+	return first, out + 8*uint64(field.Slot(va, 2))
+}
+
+// tables: by facts.
+func (f facts) tables(t api.Test, begin func(uint64) uint64) table {
+	x := table{cells: map[uint64]int{}}
+	for core := range t.Cores {
+		for page := range f.pages {
+			a, b := slots(t, core, uint64(page)<<api.PageBits, begin)
+			x.cells[a], x.cells[b] = 1, 1
+			if f.cells[a].writes != 0 {
+				x.written = true
+			}
+		}
+	}
+	return x
+}

@@ -1,0 +1,306 @@
+package explore
+
+import (
+	"iter"
+	"slices"
+
+	"granule/api"
+	"granule/machine"
+	"granule/trace"
+)
+
+// run is a state with its windows, and the picks that led to it from the last one that was looked at.
+type run struct {
+	*search
+	s     machine.State
+	w     []trace.Window
+	picks []api.Pick
+	stale []bool // of each core: walks may find what they haven't found yet
+}
+
+// start: a test's first state.
+func (g *search) start() *run {
+	r := g.resume(item{state: g.begin})
+	for i := range r.stale {
+		r.stale[i] = true
+	}
+	return r
+}
+
+// resume: a state that was reached.
+func (g *search) resume(x item) *run {
+	r := &run{search: g, s: x.state, stale: make([]bool, len(g.t.Cores))}
+	for i := range g.t.Cores {
+		r.w = append(r.w, machine.Window(g.t, x.state, i))
+	}
+	return r
+}
+
+// copy: one that goes on by itself.
+func (r *run) copy() *run {
+	other := *r
+	other.w, other.picks, other.stale = slices.Clone(r.w), slices.Clone(r.picks), slices.Clone(r.stale)
+	return &other
+}
+
+// do: a pick, if it can be done.
+func (r *run) do(p api.Pick) bool {
+	next, ok := machine.Do(r.t, r.s, p)
+	if !ok {
+		return false
+	}
+	switch p.Kind {
+	case api.PickAct:
+		if x := &r.w[p.Core].Steps[p.Step]; x.Writes() && (r.table.written || r.table.cells[x.Addr] > 0) {
+			for i := range r.stale {
+				r.stale[i] = true
+			}
+		}
+	case api.PickDrop:
+		r.stale[p.Arg] = true
+	}
+	r.s = next
+	r.picks = append(r.picks, p)
+	if p.Kind == api.PickFetch || p.Kind == api.PickBind || p.Kind == api.PickOwn || p.Kind == api.PickAct {
+		r.w[p.Core] = machine.Window(r.t, next, p.Core)
+		r.learned.learn(p.Core, &r.w[p.Core])
+	}
+	return true
+}
+
+// settle: all that may be done at once, since it never hinders anything, and whose way is known. What is behind a branch comes into the window ahead of all acts, so that no window is missed.
+func (r *run) settle() {
+	for again := true; again; {
+		again = false
+		for core := range r.w {
+			again = r.fetch(core) || again
+		}
+		for core := range r.w {
+			r.walk(core)
+			again = r.bindNow(core) || again
+		}
+		if again {
+			continue
+		}
+		for core := range r.w {
+			again = r.actNow(core) || again
+		}
+		for core := range r.w {
+			again = r.dropNow(core) || again
+		}
+	}
+}
+
+// fetch: as far as the way is known.
+func (r *run) fetch(core int) bool {
+	done := false
+	for {
+		w := &r.w[core]
+		if w.End || fork(w) || waiting(w) >= 0 || !r.do(api.Pick{Kind: api.PickFetch, Core: core}) {
+			return done
+		}
+		done = true
+	}
+}
+
+// walk: for all pages; an entry more never hinders anything.
+func (r *run) walk(core int) {
+	if !r.stale[core] {
+		return
+	}
+	r.stale[core] = false
+	if walked(&r.s.Cores[core], &r.w[core]) {
+		return
+	}
+	for _, p := range r.pages {
+		r.do(api.Pick{Kind: api.PickWalk, Core: core, Arg: p})
+	}
+	for n := range r.s.Cores[core].Walks {
+		r.do(api.Pick{Kind: api.PickStep, Core: core, Arg: n})
+	}
+}
+
+// fixed: is what an address goes by never written? (As far as it was walked for.)
+func (r *run) fixed(core int, va uint64) bool {
+	a, b := slots(r.t, core, va, r.begin.Memory.Read)
+	return r.facts.pages[int(va>>api.PageBits)] > 0 && r.facts.cells[a].writes == 0 && r.facts.cells[b].writes == 0
+}
+
+// pending: may an invalidation yet come to a core?
+func (r *run) pending(to int) bool {
+	for core, c := range r.t.Cores {
+		flush := func(x api.Instr) bool {
+			return x.Op == api.Tlbi && (x.Kind < api.TlbiHere || core == to)
+		}
+		if !slices.ContainsFunc(c.Code, flush) && !slices.ContainsFunc(c.Handler, flush) {
+			continue
+		}
+		if !over(&r.s.Cores[core], &r.w[core]) {
+			return true
+		}
+		for _, left := range r.s.Cores[core].Left {
+			if slices.Contains(left, to) {
+				return true
+			}
+		}
+	}
+	return false
+}
+
+// bindNow: an access whose descriptors are never written goes by the only entry that it may have, or by what its own walk finds, if that can't be in the way of an invalidation.
+func (r *run) bindNow(core int) bool {
+	c := &r.s.Cores[core]
+	step := waiting(&r.w[core])
+	if step < 0 || !r.fixed(core, r.w[core].Steps[step].VA) {
+		return false
+	}
+	list := binds(r.t.Cores[core].Space, core, c, &r.w[core])
+	if len(list) == 0 {
+		return r.do(api.Pick{Kind: api.PickOwn, Core: core, Step: step})
+	}
+	if !r.pending(core) {
+		return r.do(list[0])
+	}
+	other := r.copy()
+	if other.do(list[0]) && other.now(core, step) && other.do(api.Pick{Kind: api.PickAct, Core: core, Step: step}) {
+		*r = *other
+		return true
+	}
+	return false
+}
+
+// alone: is a cell one that no other core that is at work reads (if it is written), or writes?
+func (r *run) alone(core int, a uint64, written bool) bool {
+	x := r.facts.cells[a]
+	others := x.writes
+	if written {
+		others |= x.reads
+	}
+	for k := range r.w {
+		if k != core && others>>k&1 == 1 && !over(&r.s.Cores[k], &r.w[k]) {
+			return false
+		}
+	}
+	return true
+}
+
+// now: may a step act as soon as it can, since that never hinders anything, and changes nothing that others see? Loads of cores that guess stay, for the sake of the windows that wrong guesses come to.
+func (r *run) now(core, step int) bool {
+	x := &r.w[core].Steps[step]
+	switch {
+	case x.Faults(), x.Instr.Op == api.Tlbi:
+		return true
+	case x.Reads():
+		return !r.branches[core] && r.alone(core, x.Addr, false)
+	}
+	return x.Writes() && !r.table.written && r.table.cells[x.Addr] == 0 && r.alone(core, x.Addr, true)
+}
+
+// actNow: all steps that may act as soon as they can.
+func (r *run) actNow(core int) bool {
+	done := false
+	for _, p := range acts(core, &r.s.Cores[core], &r.w[core]) {
+		if r.now(core, p.Step) && r.do(p) {
+			done = true
+		}
+	}
+	return done
+}
+
+// dropNow: invalidations come at once, where nothing is lost by them.
+func (r *run) dropNow(core int) bool {
+	done := false
+	for _, p := range drops(core, &r.s.Cores[core]) {
+		other := r.copy()
+		if !other.do(p) {
+			continue
+		}
+		other.walk(p.Arg)
+		if other.keeps(r, p.Arg) {
+			*r = *other
+			done = true
+		}
+	}
+	return done
+}
+
+// keeps: has a core all that matters of the buffer and of the walks that it had?
+func (r *run) keeps(old *run, core int) bool {
+	now, was := &r.s.Cores[core], &old.s.Cores[core]
+	if walked(now, &r.w[core]) {
+		return true
+	}
+	for _, e := range was.Buffer.Entries() {
+		if !now.Buffer.Has(e) {
+			return false
+		}
+	}
+	for _, x := range was.Walks {
+		if !slices.ContainsFunc(now.Walks, func(y machine.Walk) bool { return better(y, x) }) {
+			return false
+		}
+	}
+	return true
+}
+
+// successors: the states behind each pick that has to be tried. A branch whose way isn't known is guessed first, both ways; what is behind a wrong guess is left out, as what is behind the right one shows all that comes of it.
+func (r *run) successors() iter.Seq[*run] {
+	return func(yield func(*run) bool) {
+		for core := range r.w {
+			two := r.guesses(core)
+			for _, next := range two {
+				if !yield(next) {
+					return
+				}
+			}
+			if len(two) == 2 {
+				return
+			}
+		}
+		for core := range r.w {
+			for _, p := range r.tries(core) {
+				next := r.copy()
+				if next.do(p) && !next.left(r, core) && !yield(next) {
+					return
+				}
+			}
+		}
+	}
+}
+
+// guesses: the ways behind a branch whose way isn't known.
+func (r *run) guesses(core int) []*run {
+	var list []*run
+	if !fork(&r.w[core]) {
+		return nil
+	}
+	for arg := range 2 {
+		next := r.copy()
+		if next.do(api.Pick{Kind: api.PickFetch, Core: core, Arg: arg}) {
+			list = append(list, next)
+		}
+	}
+	return list
+}
+
+// tries: of a core all picks that may be in the way of others.
+func (r *run) tries(core int) []api.Pick {
+	c, w := &r.s.Cores[core], &r.w[core]
+	list := binds(r.t.Cores[core].Space, core, c, w)
+	if n := waiting(w); n >= 0 && !r.fixed(core, w.Steps[n].VA) {
+		list = append(list, api.Pick{Kind: api.PickOwn, Core: core, Step: n})
+	}
+	list = append(list, acts(core, c, w)...)
+	return append(list, drops(core, c)...)
+}
+
+// left: was a branch of a core guessed wrong, or is it known now where it leads, and could it have been guessed?
+func (r *run) left(old *run, core int) bool {
+	if r.s.Cores[core].Limit < old.s.Cores[core].Limit {
+		return true
+	}
+	if !fork(&old.w[core]) || fork(&r.w[core]) {
+		return false
+	}
+	return r.copy().do(api.Pick{Kind: api.PickFetch, Core: core})
+}
