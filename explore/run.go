@@ -16,20 +16,21 @@ type run struct {
 	w     []trace.Window
 	picks []api.Pick
 	stale []bool // of each core: walks may find what they haven't found yet
+	fresh []bool // of each core: something has changed, so that more may be done at once
 }
 
 // start: a test's first state.
 func (g *search) start() *run {
 	r := g.resume(item{state: g.begin})
 	for i := range r.stale {
-		r.stale[i] = true
+		r.stale[i], r.fresh[i] = true, true
 	}
 	return r
 }
 
 // resume: a state that was reached.
 func (g *search) resume(x item) *run {
-	r := &run{search: g, s: x.state, stale: make([]bool, len(g.t.Cores))}
+	r := &run{search: g, s: x.state, stale: make([]bool, len(g.t.Cores)), fresh: make([]bool, len(g.t.Cores))}
 	for i := range g.t.Cores {
 		r.w = append(r.w, machine.Window(g.t, x.state, i))
 	}
@@ -39,67 +40,86 @@ func (g *search) resume(x item) *run {
 // copy: one that goes on by itself.
 func (r *run) copy() *run {
 	other := *r
-	other.w, other.picks, other.stale = slices.Clone(r.w), slices.Clone(r.picks), slices.Clone(r.stale)
+	other.w, other.picks = slices.Clone(r.w), slices.Clone(r.picks)
+	other.stale, other.fresh = slices.Clone(r.stale), slices.Clone(r.fresh)
 	return &other
 }
 
 // do: a pick, if it can be done.
 func (r *run) do(p api.Pick) bool {
 	next, ok := machine.Do(r.t, r.s, p)
-	if !ok {
-		return false
+	if ok {
+		r.done(p, next)
 	}
+	return ok
+}
+
+// tried: the run behind a pick, if it can be done.
+func (r *run) tried(p api.Pick) (*run, bool) {
+	next, ok := machine.Do(r.t, r.s, p)
+	if !ok {
+		return nil, false
+	}
+	other := r.copy()
+	other.done(p, next)
+	return other, true
+}
+
+// done: a pick has led to a state. Its core's window is looked at anew, if it may be another one.
+func (r *run) done(p api.Pick, next machine.State) {
+	look := p.Kind == api.PickFetch || p.Kind == api.PickBind || p.Kind == api.PickOwn
+	r.fresh[p.Core] = true
 	switch p.Kind {
 	case api.PickAct:
-		if x := &r.w[p.Core].Steps[p.Step]; x.Writes() && (r.table.written || r.table.cells[x.Addr] > 0) {
+		x := &r.w[p.Core].Steps[p.Step]
+		look = x.Reads()
+		if x.Writes() && (r.table.written || r.table.cells[x.Addr] > 0) {
 			for i := range r.stale {
-				r.stale[i] = true
+				r.stale[i], r.fresh[i] = true, true
 			}
 		}
+		for i := range r.fresh { // invalidations may come to it
+			r.fresh[i] = r.fresh[i] || x.Instr.Op == api.Tlbi
+		}
 	case api.PickDrop:
-		r.stale[p.Arg] = true
+		r.stale[p.Arg], r.fresh[p.Arg] = true, true
 	}
 	r.s = next
 	r.picks = append(r.picks, p)
-	if p.Kind == api.PickFetch || p.Kind == api.PickBind || p.Kind == api.PickOwn || p.Kind == api.PickAct {
+	if look {
 		r.w[p.Core] = machine.Window(r.t, next, p.Core)
 		r.learned.learn(p.Core, &r.w[p.Core])
 	}
-	return true
+	if over(&next.Cores[p.Core], &r.w[p.Core]) {
+		for i := range r.fresh { // what only this core shared with them is theirs alone now
+			r.fresh[i] = true
+		}
+	}
 }
 
 // settle: all that may be done at once, since it never hinders anything, and whose way is known. What is behind a branch comes into the window ahead of all acts, so that no window is missed.
 func (r *run) settle() {
-	for again := true; again; {
-		again = false
-		for core := range r.w {
-			again = r.fetch(core) || again
+	for {
+		core := slices.Index(r.fresh, true)
+		if core < 0 {
+			return
 		}
-		for core := range r.w {
-			r.walk(core)
-			again = r.bindNow(core) || again
-		}
-		if again {
+		r.fetch(core)
+		r.walk(core)
+		if r.bindNow(core) || r.actNow(core) || r.dropNow(core) {
 			continue
 		}
-		for core := range r.w {
-			again = r.actNow(core) || again
-		}
-		for core := range r.w {
-			again = r.dropNow(core) || again
-		}
+		r.fresh[core] = false
 	}
 }
 
 // fetch: as far as the way is known.
-func (r *run) fetch(core int) bool {
-	done := false
+func (r *run) fetch(core int) {
 	for {
 		w := &r.w[core]
 		if w.End || fork(w) || waiting(w) >= 0 || !r.do(api.Pick{Kind: api.PickFetch, Core: core}) {
-			return done
+			return
 		}
-		done = true
 	}
 }
 
@@ -128,11 +148,8 @@ func (r *run) fixed(core int, va uint64) bool {
 
 // pending: may an invalidation yet come to a core?
 func (r *run) pending(to int) bool {
-	for core, c := range r.t.Cores {
-		flush := func(x api.Instr) bool {
-			return x.Op == api.Tlbi && (x.Kind < api.TlbiHere || core == to)
-		}
-		if !slices.ContainsFunc(c.Code, flush) && !slices.ContainsFunc(c.Handler, flush) {
+	for core := range r.w {
+		if r.flushes[core]>>to&1 == 0 {
 			continue
 		}
 		if !over(&r.s.Cores[core], &r.w[core]) {
@@ -161,8 +178,8 @@ func (r *run) bindNow(core int) bool {
 	if !r.pending(core) {
 		return r.do(list[0])
 	}
-	other := r.copy()
-	if other.do(list[0]) && other.now(core, step) && other.do(api.Pick{Kind: api.PickAct, Core: core, Step: step}) {
+	other, ok := r.tried(list[0])
+	if ok && other.now(core, step) && other.do(api.Pick{Kind: api.PickAct, Core: core, Step: step}) {
 		*r = *other
 		return true
 	}
@@ -207,21 +224,25 @@ func (r *run) actNow(core int) bool {
 	return done
 }
 
-// dropNow: invalidations come at once, where nothing is lost by them.
-func (r *run) dropNow(core int) bool {
-	done := false
-	for _, p := range drops(core, &r.s.Cores[core]) {
-		other := r.copy()
-		if !other.do(p) {
-			continue
-		}
-		other.walk(p.Arg)
-		if other.keeps(r, p.Arg) {
-			*r = *other
-			done = true
+// dropNow: invalidations come to a core at once, where nothing is lost by them.
+func (r *run) dropNow(to int) bool {
+	for core := range r.w {
+		for _, p := range drops(core, &r.s.Cores[core]) {
+			if p.Arg != to {
+				continue
+			}
+			other, ok := r.tried(p)
+			if !ok {
+				continue
+			}
+			other.walk(to)
+			if other.keeps(r, to) {
+				*r = *other
+				return true
+			}
 		}
 	}
-	return done
+	return false
 }
 
 // keeps: has a core all that matters of the buffer and of the walks that it had?
@@ -259,8 +280,8 @@ func (r *run) successors() iter.Seq[*run] {
 		}
 		for core := range r.w {
 			for _, p := range r.tries(core) {
-				next := r.copy()
-				if next.do(p) && !next.left(r, core) && !yield(next) {
+				next, ok := r.tried(p)
+				if ok && !next.left(r, core) && !yield(next) {
 					return
 				}
 			}
@@ -275,8 +296,7 @@ func (r *run) guesses(core int) []*run {
 		return nil
 	}
 	for arg := range 2 {
-		next := r.copy()
-		if next.do(api.Pick{Kind: api.PickFetch, Core: core, Arg: arg}) {
+		if next, ok := r.tried(api.Pick{Kind: api.PickFetch, Core: core, Arg: arg}); ok {
 			list = append(list, next)
 		}
 	}
@@ -302,5 +322,6 @@ func (r *run) left(old *run, core int) bool {
 	if !fork(&old.w[core]) || fork(&r.w[core]) {
 		return false
 	}
-	return r.copy().do(api.Pick{Kind: api.PickFetch, Core: core})
+	_, ok := machine.Do(r.t, r.s, api.Pick{Kind: api.PickFetch, Core: core})
+	return ok
 }

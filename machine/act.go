@@ -40,7 +40,9 @@ func act(t api.Test, s State, p api.Pick) (State, bool) {
 	}
 	c.Acted, c.Left = copied(c.Acted, p.Step), copied(c.Left, p.Step)
 	c.Acted[p.Step], c.Left[p.Step] = true, left
-	c.forget(core)
+	if x.Reads() {
+		c.forget(core)
+	}
 	return next.with(p.Core, c), true
 }
 
@@ -71,7 +73,7 @@ func (c *Core) load(s State, steps []trace.Step, step int) bool {
 	return true
 }
 
-// forget: what was done behind a branch that is known now to have been guessed wrong.
+// forget: what was done behind a branch that is known now, by what was read, to have been guessed wrong.
 func (c *Core) forget(core api.Core) {
 	steps := c.window(core).Steps
 	n := len(steps)

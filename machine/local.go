@@ -15,16 +15,15 @@ import (
 
 // The picks of this file change one core alone. Each of them works on a copy of that core, and answers false, if it can't be done.
 
-// fetch: the next instruction comes into the window.
+// fetch: the next instruction comes into the window. What the window would be with one step more tells what it is, too.
 func (c *Core) fetch(core api.Core, guess bool) bool {
-	w := c.window(core)
-	n := len(w.Steps)
-	if n != c.Limit || w.End {
+	n, guesses := c.Limit, c.Guesses
+	steps := trace.Eval(core, c.Got, guesses, n+1).Steps
+	if len(steps) < n {
 		return false
 	}
-	guesses := c.Guesses
 	if n > 0 {
-		last := &w.Steps[n-1]
+		last := &steps[n-1]
 		switch {
 		case regs.Branch(last.Instr):
 			if last.Settled {
@@ -32,11 +31,14 @@ func (c *Core) fetch(core api.Core, guess bool) bool {
 			}
 			guesses = copied(guesses, len(guesses))
 			guesses[len(guesses)-1] = guess
-		case w.Open, last.Faults() && !c.acted(n-1):
+			if !last.Settled {
+				steps = trace.Eval(core, c.Got, guesses, n+1).Steps
+			}
+		case last.Faults() && !c.acted(n-1):
 			return false
 		}
 	}
-	if len(trace.Eval(core, c.Got, guesses, n+1).Steps) != n+1 {
+	if len(steps) != n+1 {
 		return false
 	}
 	c.Limit, c.Guesses = n+1, guesses

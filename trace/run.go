@@ -27,14 +27,16 @@ type run struct {
 
 // step: does an instruction.
 func (r *run) step(x api.Instr) {
-	s := Step{Instr: x, PC: r.pc, Handler: r.handler, Address: r.loads(regs.Address(x)), Data: r.loads(regs.Data(x))}
+	from := regs.Data(x)
+	r.Steps = append(r.Steps, Step{Instr: x, PC: r.pc, Handler: r.handler, Data: r.loads(from)})
+	s := &r.Steps[len(r.Steps)-1]
 	switch {
 	case regs.Access(x):
-		r.access(&s)
+		r.access(s, r.told(from))
 	case regs.Branch(x):
-		r.branch(&s)
+		r.branch(s, r.told(from))
 	case x.Op == api.Tlbi:
-		if r.told(regs.Data(x)) {
+		if r.told(from) {
 			s.Ready, s.Value = true, r.file.Value(x)
 			s.Flush = tlb.FlushOf(x.Kind, s.Value)
 		}
@@ -42,10 +44,9 @@ func (r *run) step(x api.Instr) {
 	case x.Op == api.Eret:
 		r.pc, r.handler = int(r.file.Sys[api.Elr]), false
 	default:
-		r.set(x)
+		r.set(x, from)
 		r.pc = regs.Next(r.pc, x, x.Op == api.B)
 	}
-	r.Steps = append(r.Steps, s)
 }
 
 // held: is a number that of a register, or of the flag?
@@ -83,13 +84,12 @@ func (r *run) learn(n int, known bool, hang []int) {
 	}
 }
 
-// set: what an instruction does with the registers alone. One that isn't known is kept 0.
-func (r *run) set(x api.Instr) {
+// set: what an instruction does with the registers alone, from some of them. One that isn't known is kept 0.
+func (r *run) set(x api.Instr, from []int) {
 	sets := regs.Sets(x)
 	if len(sets) == 0 {
 		return
 	}
-	from := regs.Data(x)
 	known, hang := r.told(from), r.loads(from)
 	r.file.Do(x)
 	for _, n := range sets {
@@ -100,18 +100,20 @@ func (r *run) set(x api.Instr) {
 	}
 }
 
-// access: a load or a store, with what is known of it.
-func (r *run) access(s *Step) {
+// access: a load or a store, with what is known of it; is what it hands over told?
+func (r *run) access(s *Step, told bool) {
 	var got Got
 	if r.accesses < len(r.got) {
 		got = r.got[r.accesses]
 	}
 	r.accesses++
-	if r.told(regs.Address(s.Instr)) {
+	at := regs.Address(s.Instr)
+	s.Address = r.loads(at)
+	if r.told(at) {
 		s.Placed, s.VA = true, r.file.Where(s.Instr)
 		s.bind(got)
 	}
-	if regs.Store(s.Instr) && r.told(regs.Data(s.Instr)) {
+	if regs.Store(s.Instr) && told {
 		s.Ready, s.Value = true, r.file.Value(s.Instr)
 	}
 	switch {
@@ -151,7 +153,7 @@ func (r *run) load(s *Step, got Got) {
 		s.Ready, s.Value = true, got.Value
 	}
 	for _, n := range regs.Sets(s.Instr) {
-		r.learn(n, s.Ready, []int{len(r.Steps)})
+		r.learn(n, s.Ready, []int{len(r.Steps) - 1})
 		r.file.Set(n, s.Value)
 	}
 }
@@ -167,14 +169,14 @@ func (r *run) fault(s *Step) {
 	r.pc, r.handler = 0, true
 }
 
-// branch: where it leads, if that is known, else as it is guessed.
-func (r *run) branch(s *Step) {
+// branch: where it leads, if that is told, else as it is guessed.
+func (r *run) branch(s *Step, told bool) {
 	guessed, guess := r.branches < len(r.guesses), false
 	if guessed {
 		guess = r.guesses[r.branches]
 	}
 	r.branches++
-	s.Settled, s.Taken = r.told(regs.Data(s.Instr)), guess
+	s.Settled, s.Taken = told, guess
 	if s.Settled {
 		s.Taken = r.file.Taken(s.Instr)
 		s.Wrong = guessed && guess != s.Taken
