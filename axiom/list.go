@@ -106,13 +106,26 @@ func at(lists [][]int, core, step int) int {
 }
 
 // First: the first event of a step; -1: it has none.
-func (g *Graph) First(core, step int) int { return at(g.first, core, step) }
+func (g *Graph) First(core, step int) int {
+	if g == nil {
+		return -1
+	}
+	return at(g.first, core, step)
+}
 
 // Act: a step's act; -1: it has none.
-func (g *Graph) Act(core, step int) int { return at(g.act, core, step) }
+func (g *Graph) Act(core, step int) int {
+	if g == nil {
+		return -1
+	}
+	return at(g.act, core, step)
+}
 
 // Asks: how many events cores that came to an end have, and how many of them read.
 func (g *Graph) Asks() (int, int) {
+	if g == nil {
+		return 0, 0
+	}
 	n := 0
 	for _, v := range g.Events {
 		if reads(v) {

@@ -8,7 +8,10 @@ import (
 	"granule/api"
 	"granule/axiom"
 	"granule/enum"
+	"granule/explore"
+	"granule/linear"
 	"granule/litmus"
+	"granule/machine"
 	"granule/proper"
 	"granule/sample"
 )
@@ -155,7 +158,77 @@ func TestStale(t *testing.T) { // P22.5, P22.7
 	}
 }
 
-func TestSamples(t *testing.T) { // P22.6, P22.7
+// dice are numbers that follow from a first one.
+type dice uint64
+
+func (d *dice) below(n int) int {
+	*d = *d*6364136223846793005 + 1442695040888963407
+	return int(uint64(*d) >> 33 % uint64(n))
+}
+
+// wander: picks that lead somewhere, with walks as often as may be.
+func (d *dice) wander(test api.Test) []api.Pick {
+	var picks []api.Pick
+	s := machine.Begin(test)
+	for range 600 {
+		list := explore.Picks(test, s, []int{5, 5, 0x202, 0x20a})
+		p := list[d.below(len(list))]
+		next, ok := machine.Do(test, s, p)
+		if ok {
+			picks, s = append(picks, p), next
+		}
+		if machine.Final(test, s) {
+			break
+		}
+	}
+	return picks
+}
+
+func TestDiscipline(t *testing.T) { // P22.6
+	kept, broken, twice := 0, 0, 0
+	rows := []string{"STR XZR,[X1]", "DSB SY", "TLBI VMALLE1IS", "DSB SY", "STR X5,[X1]", "STR X4,[X1]", "LDR X0,[X6]", "TLBI VAAE1IS,X7", "DMB SY", "STR XZR,[X1]"}
+	for seed := range uint64(1500) {
+		d := dice(seed)
+		text := "NOP"
+		from := d.below(4)
+		for i := range 6 {
+			row := rows[d.below(len(rows))]
+			if from > 0 && i < 5 {
+				row = rows[i]
+			}
+			text += "\n" + row
+		}
+		text += "\ncore 1 table 0x1000\nreg X1 = 0x202028\nreg X6 = 0x5000\nLDR X0,[X6]\n" + rows[d.below(len(rows))] + "\nLDR X2,[X6]"
+		s := change(t, text)
+		picks := d.wander(s.Test)
+		c, _, ok := linear.Observe(s.Test, picks)
+		if !ok {
+			continue
+		}
+		g, e := axiom.Build(s.Test, c)
+		if e != api.OK {
+			t.Fatalf("seed %d: %d", seed, e)
+		}
+		all := Single(s.Test, picks) == len(picks)+1
+		switch {
+		case First(s, g, c) >= 0:
+			broken++
+			if !all {
+				twice++
+			}
+		case !all:
+			t.Fatalf("seed %d: two entries, though the discipline is kept: %s", seed, text)
+		default:
+			kept++
+		}
+	}
+	t.Logf("%d kept, %d broken, %d of them with two entries", kept, broken, twice)
+	if kept < 100 || twice < 10 {
+		t.Errorf("%d kept, %d broken, %d of them with two entries", kept, broken, twice)
+	}
+}
+
+func TestSamples(t *testing.T) { // P22.7
 	for seed := range uint64(150) {
 		test := read(t, sample.Text(seed+300000, 1+int(seed%2), 2+int(seed%3))).Test
 		enum.Each(test, 500, func(c axiom.Candidate) bool {

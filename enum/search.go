@@ -303,7 +303,7 @@ func (s *search) side(n int) {
 			return
 		}
 		if ok, e := axiom.Check(s.t, s.chosen); e == api.OK && ok {
-			s.halted = !s.yield(s.chosen, s.ends)
+			s.halted = !s.yield(s.chosen)
 		}
 		return
 	}
