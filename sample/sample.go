@@ -30,7 +30,7 @@ cell 0x2030 = page 0x9000
 cell 0x9000 = 3
 `
 
-// regs are what each core begins with: X1 to X4 the addresses of a page, of its entry, of what the page leads to, of another cell; X5 another descriptor; X6 the page for TLBI; X8 a number.
+// regs are what each core begins with: X1 to X4 the addresses of a page, of its entry, of what the page leads to, of another cell; X5 another descriptor; X6 the page for TLBI; X8 a number; X15 a block for the first entry of the first table, X16 the address of that.
 const regs = `reg X1 = 0x5000
 reg X2 = 0x202028
 reg X3 = 0x209000
@@ -38,13 +38,16 @@ reg X4 = 0x20a000
 reg X5 = page 0xa000
 reg X6 = 5
 reg X8 = 1
+reg X15 = block 0
+reg X16 = 0x201000
 `
 
 // code: an instruction of a core of which so many are left.
 func code(d *dice, left int) string {
 	row := d.of("STR XZR,[X2]", "STR X5,[X2]", "LDR X7,[X1]", "LDR X7,[X1]", "STR X8,[X1]", "LDR X9,[X3]", "STR X8,[X3]", "LDR X10,[X4]", "STR X8,[X4]",
 		"DSB SY", "DSB SY", "DMB SY", "DMB LD", "DMB ST", "ISB", "TLBI VMALLE1IS", "TLBI VAE1IS,X6", "TLBI VAAE1,X6", "LDAR X7,[X3]", "STLR X8,[X4]",
-		"EOR X11,X7,X7", "ADD X1,X1,X11", "STR X7,[X4]", "LDR X12,[X6]", "CBZ X7,.+", "CBNZ X9,.+", "CMP X7,X9", "B.EQ .+", "TLBI ASIDE1IS,X7")
+		"EOR X11,X7,X7", "ADD X1,X1,X11", "STR X7,[X4]", "LDR X12,[X6]", "CBZ X7,.+", "CBNZ X9,.+", "CMP X7,X9", "B.EQ .+", "TLBI ASIDE1IS,X7",
+		"STR XZR,[X16]", "STR X15,[X16]")
 	if strings.HasSuffix(row, "+") {
 		row += field.Int(1 + d.below(left))
 	}
