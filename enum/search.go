@@ -1,6 +1,8 @@
 package enum
 
 import (
+	"slices"
+
 	"granule/api"
 	"granule/axiom"
 	"granule/trace"
@@ -123,32 +125,46 @@ func (s *search) latest(r int) int {
 	return -1
 }
 
-// base: what holds whatever is chosen: the relation of one candidate, less what its choices make. It may tell less than there is; each candidate is held against the axioms at its end.
-func (s *search) base() bool {
+// filler: a candidate of the runs that were taken: with the first choices of all, or with the last ones.
+func (s *search) filler(last bool) axiom.Candidate {
 	c := axiom.Candidate{Answers: s.chosen.Answers, From: make([]int, len(s.g.Events)), After: make([]bool, len(s.g.Pairs))}
 	for i := range c.From {
 		c.From[i] = -1
 	}
 	for i, r := range s.reads {
 		c.From[r] = s.from[i][0]
+		if last {
+			c.From[r] = s.from[i][len(s.from[i])-1]
+		}
 	}
 	for _, list := range s.cells {
 		c.Order = append(c.Order, list...)
 	}
-	g, e := axiom.Build(s.t, c)
-	if e != api.OK {
-		return false
+	if last {
+		slices.Reverse(c.Order)
 	}
-	made := s.made(c)
-	n := len(s.g.Events)
-	for _, p := range g.Rel.Pairs() {
-		if made[p] == 0 && !s.reach.add(n, p[0], p[1]) {
+	for n := range c.After {
+		c.After[n] = last
+	}
+	return c
+}
+
+// base: what holds whatever is chosen: the relations of candidates, less what their choices make. It may tell less than there is; each candidate is held against the axioms at its end.
+func (s *search) base() bool {
+	for _, last := range [2]bool{true, false} {
+		c := s.filler(last)
+		g, e := axiom.Build(s.t, c)
+		if e != api.OK {
 			return false
 		}
+		made := s.made(c)
+		for _, p := range g.Rel.Pairs() {
+			if made[p] == 0 && !s.reach.add(len(s.g.Events), p[0], p[1]) {
+				return false
+			}
+		}
+		s.chosen.From, s.chosen.After = c.From, c.After
 	}
-	s.chosen.From = c.From
-	s.chosen.Order = nil
-	s.chosen.After = c.After
 	return true
 }
 
@@ -158,11 +174,9 @@ func (s *search) made(c axiom.Candidate) map[[2]int]int {
 	var place [api.MaxEvents]int
 	for n, w := range c.Order {
 		place[w] = n + 1
-	}
-	for _, list := range s.cells {
-		for i, a := range list {
-			for _, b := range list[i+1:] {
-				out[[2]int{a, b}]++
+		for _, x := range c.Order[:n] {
+			if s.g.Events[x].Addr == s.g.Events[w].Addr {
+				out[[2]int{x, w}]++
 			}
 		}
 	}
@@ -181,9 +195,12 @@ func (s *search) made(c axiom.Candidate) map[[2]int]int {
 		}
 		out[[2]int{r, r}]++
 	}
-	for _, p := range s.g.Pairs {
-		out[p]++
-		out[[2]int{p[1], p[0]}]++
+	for n, p := range s.g.Pairs {
+		if v := s.g.Events[p[1]]; c.After[n] {
+			out[[2]int{p[0], s.g.First(v.Core, v.Step)}]++
+		} else {
+			out[[2]int{p[1], p[0]}]++
+		}
 	}
 	return out
 }
@@ -234,7 +251,7 @@ func (s *search) write(cell, had int) {
 	for i := had; i < len(list); i++ {
 		list[had], list[i] = list[i], list[had]
 		s.chosen.Order = append(s.chosen.Order, list[had])
-		if (len(list)-had == 1 || s.look()) && s.precedes(list[had], list[had+1:]) {
+		if (len(list)-had == 1 || s.try()) && s.precedes(list[had], list[had+1:]) {
 			s.write(cell, had+1)
 		}
 		s.back(was, len(s.chosen.Order)-1)
@@ -265,7 +282,7 @@ func (s *search) read(n int) {
 	defer func() { s.reach, s.chosen.From[r] = was, -1 }()
 	for _, from := range s.from[n] {
 		s.reach, s.chosen.From[r] = was, from
-		if (len(s.from[n]) == 1 || s.look()) && s.readsFrom(r, from) {
+		if (len(s.from[n]) == 1 || s.try()) && s.readsFrom(r, from) {
 			s.read(n + 1)
 		}
 		if s.ended() {

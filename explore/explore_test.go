@@ -106,7 +106,7 @@ func check(t *testing.T, test api.Test, r Report, most int) bool {
 
 func TestSamples(t *testing.T) { // P20.1: just what any picks come to
 	done := 0
-	for seed := range uint64(300) {
+	for seed := range uint64(200) {
 		text := sample.Text(seed, 1+int(seed%2), 2+int(seed%3))
 		test := read(t, text)
 		r, e := Explore(test, api.MaxStates)

@@ -150,7 +150,7 @@ func (d *dice) pick(test api.Test, s machine.State) api.Pick {
 
 func TestObserve(t *testing.T) { // P18.2, P18.3: what the machine comes to is a consistent candidate, and the other way round
 	finals := 0
-	for seed := range uint64(400) {
+	for seed := range uint64(250) {
 		test := read(t, sample.Text(seed, 1+int(seed%3), 2+int(seed%4)))
 		for run := range uint64(6) {
 			d := dice(seed*31 + run)
@@ -188,7 +188,7 @@ func TestObserve(t *testing.T) { // P18.2, P18.3: what the machine comes to is a
 			check(t, test, c)
 		}
 	}
-	if finals < 1000 {
+	if finals < 600 {
 		t.Errorf("only %d runs came to their end", finals)
 	}
 }
