@@ -6,6 +6,7 @@ import (
 
 	"granule/api"
 	"granule/axiom"
+	"granule/enum"
 	"granule/machine"
 	"granule/proper"
 	"granule/sample"
@@ -191,4 +192,24 @@ func TestObserve(t *testing.T) { // P18.2, P18.3: what the machine comes to is a
 	if finals < 600 {
 		t.Errorf("only %d runs came to their end", finals)
 	}
+}
+
+func TestCandidates(t *testing.T) { // P18.1, P18.3: what is consistent the machine can do
+	n := 0
+	for seed := range uint64(150) {
+		test := read(t, sample.Text(seed+40000, 1+int(seed%3), 2+int(seed%3)))
+		looked := 0
+		enum.Each(test, 5000, func(c axiom.Candidate) bool {
+			looked++
+			if looked%7 == 1 {
+				check(t, test, c)
+				n++
+			}
+			return looked < 300
+		})
+		if t.Failed() {
+			t.Fatalf("seed %d", seed)
+		}
+	}
+	t.Logf("%d candidates", n)
 }
