@@ -2,6 +2,7 @@ package explore
 
 import (
 	"maps"
+	"math/bits"
 	"slices"
 
 	"granule/api"
@@ -15,7 +16,7 @@ type sharers struct {
 	writes int
 }
 
-// facts are what a search may rely on: the pages that accesses go to, and which cores' accesses go to which cells. A search that finds more is done again with what it found, until it finds no more: nothing was relied on then that isn't so.
+// facts are what a search may rely on: the pages that accesses go to, of which cores (a bit each), and which cores' accesses go to which cells. A search that finds more is done again with what it found, until it finds no more: nothing was relied on then that isn't so.
 type facts struct {
 	pages map[int]int
 	cells map[uint64]sharers
@@ -27,17 +28,29 @@ func (f facts) copy() facts { return facts{pages: maps.Clone(f.pages), cells: ma
 
 // size: how much is known. It only grows.
 func (f facts) size() int {
-	n := len(f.pages)
+	n := 0
+	for _, cores := range f.pages {
+		n += bits.OnesCount(uint(cores))
+	}
 	for _, x := range f.cells {
-		for k := range 64 {
-			n += x.reads>>k&1 + x.writes>>k&1
-		}
+		n += bits.OnesCount(uint(x.reads)) + bits.OnesCount(uint(x.writes))
 	}
 	return n
 }
 
 // list: the pages, rising.
 func (f facts) list() []int { return slices.Sorted(maps.Keys(f.pages)) }
+
+// of: the pages of a core, rising.
+func (f facts) of(core int) []int {
+	var list []int
+	for _, page := range f.list() {
+		if f.pages[page]>>core&1 == 1 {
+			list = append(list, page)
+		}
+	}
+	return list
+}
 
 // learn: what a core's window tells.
 func (f facts) learn(core int, w *trace.Window) {
@@ -47,8 +60,8 @@ func (f facts) learn(core int, w *trace.Window) {
 			continue
 		}
 		page := int(s.VA >> api.PageBits)
-		if f.pages[page] == 0 {
-			f.pages[page] = 1
+		if f.pages[page]>>core&1 == 0 {
+			f.pages[page] |= 1 << core
 		}
 		if !s.Bound || s.Faults() {
 			continue
@@ -83,7 +96,7 @@ func slots(t api.Test, core int, va uint64, begin func(uint64) uint64) (uint64, 
 func (f facts) tables(t api.Test, begin func(uint64) uint64) table {
 	x := table{cells: map[uint64]int{}}
 	for core := range t.Cores {
-		for page := range f.pages {
+		for _, page := range f.of(core) {
 			a, b := slots(t, core, uint64(page)<<api.PageBits, begin)
 			x.cells[a], x.cells[b] = 1, 1
 			if f.cells[a].writes != 0 {

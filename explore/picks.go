@@ -25,6 +25,19 @@ func over(c *machine.Core, w *trace.Window) bool {
 	return true
 }
 
+// bound: is there no access of a window any more, and will there be none, that may yet go by an entry?
+func bound(w *trace.Window) bool {
+	if !w.End {
+		return false
+	}
+	for i := range w.Steps {
+		if regs.Access(w.Steps[i].Instr) && !w.Steps[i].Bound {
+			return false
+		}
+	}
+	return true
+}
+
 // walked: is there no access of a core any more that a walk may be for?
 func walked(c *machine.Core, w *trace.Window) bool {
 	if !w.End {

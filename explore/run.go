@@ -129,10 +129,10 @@ func (r *run) walk(core int) {
 		return
 	}
 	r.stale[core] = false
-	if walked(&r.s.Cores[core], &r.w[core]) {
+	if bound(&r.w[core]) {
 		return
 	}
-	for _, p := range r.pages {
+	for _, p := range r.pages[core] {
 		r.do(api.Pick{Kind: api.PickWalk, Core: core, Arg: p})
 	}
 	for n := range r.s.Cores[core].Walks {
@@ -140,22 +140,43 @@ func (r *run) walk(core int) {
 	}
 }
 
-// fixed: is what an address goes by never written? (As far as it was walked for.)
-func (r *run) fixed(core int, va uint64) bool {
-	a, b := slots(r.t, core, va, r.begin.Memory.Read)
-	return r.facts.pages[int(va>>api.PageBits)] > 0 && r.facts.cells[a].writes == 0 && r.facts.cells[b].writes == 0
+// written: may a cell yet be written?
+func (r *run) written(a uint64) bool {
+	writers := r.facts.cells[a].writes
+	for core := range r.w {
+		if writers>>core&1 == 1 && !over(&r.s.Cores[core], &r.w[core]) {
+			return true
+		}
+	}
+	return false
 }
 
-// pending: may an invalidation yet come to a core?
+// fixed: is what an address is led to by the tables never written any more? (As far as it was walked for.) And is there an entry for that?
+func (r *run) fixed(core int, va uint64) (bool, bool) {
+	a, b := slots(r.t, core, va, r.s.Memory.Read)
+	if r.facts.pages[int(va>>api.PageBits)]>>core&1 == 0 || r.written(a) || r.written(b) {
+		return false, false
+	}
+	first, last := r.s.Memory.Read(a), r.s.Memory.Read(b)
+	for _, e := range r.s.Cores[core].Buffer.Serving(r.t.Cores[core].Space, va) {
+		if e.First == first && (e.Last == last || e.Last == 0) {
+			return true, true
+		}
+	}
+	return true, false
+}
+
+// pending: may an invalidation yet come to a core while its last access waits? Those behind that access can't: they aren't fetched ahead of its entry.
 func (r *run) pending(to int) bool {
 	for core := range r.w {
 		if r.flushes[core]>>to&1 == 0 {
 			continue
 		}
-		if !over(&r.s.Cores[core], &r.w[core]) {
+		c, w := &r.s.Cores[core], &r.w[core]
+		if core == to && issues(c, w) || core != to && !over(c, w) {
 			return true
 		}
-		for _, left := range r.s.Cores[core].Left {
+		for _, left := range c.Left {
 			if slices.Contains(left, to) {
 				return true
 			}
@@ -164,18 +185,32 @@ func (r *run) pending(to int) bool {
 	return false
 }
 
-// bindNow: an access whose descriptors are never written goes by the only entry that it may have, or by what its own walk finds, if that can't be in the way of an invalidation.
+// issues: has a window an invalidation that is yet to act?
+func issues(c *machine.Core, w *trace.Window) bool {
+	for i := range w.Steps {
+		if w.Steps[i].Instr.Op == api.Tlbi && !acted(c, i) {
+			return true
+		}
+	}
+	return false
+}
+
+// bindNow: an access that has but one way to go takes it, if that can't be in the way of an invalidation: the only entry, or what its own walk finds.
 func (r *run) bindNow(core int) bool {
-	c := &r.s.Cores[core]
 	step := waiting(&r.w[core])
-	if step < 0 || !r.fixed(core, r.w[core].Steps[step].VA) {
+	if step < 0 {
 		return false
 	}
-	list := binds(r.t.Cores[core].Space, core, c, &r.w[core])
-	if len(list) == 0 {
+	fixed, kept := r.fixed(core, r.w[core].Steps[step].VA)
+	list := binds(r.t.Cores[core].Space, core, &r.s.Cores[core], &r.w[core])
+	switch {
+	case !fixed:
+		return false
+	case len(list) == 0:
 		return r.do(api.Pick{Kind: api.PickOwn, Core: core, Step: step})
-	}
-	if !r.pending(core) {
+	case len(list) > 1 || !kept:
+		return false
+	case !r.pending(core):
 		return r.do(list[0])
 	}
 	other, ok := r.tried(list[0])
@@ -248,7 +283,7 @@ func (r *run) dropNow(to int) bool {
 // keeps: has a core all that matters of the buffer and of the walks that it had?
 func (r *run) keeps(old *run, core int) bool {
 	now, was := &r.s.Cores[core], &old.s.Cores[core]
-	if walked(now, &r.w[core]) {
+	if bound(&r.w[core]) {
 		return true
 	}
 	for _, e := range was.Buffer.Entries() {
@@ -279,6 +314,16 @@ func (r *run) successors() iter.Seq[*run] {
 			}
 		}
 		for core := range r.w {
+			if list := r.ways(core); len(list) > 0 {
+				for _, next := range list {
+					if !yield(next) {
+						return
+					}
+				}
+				return
+			}
+		}
+		for core := range r.w {
 			for _, p := range r.tries(core) {
 				next, ok := r.tried(p)
 				if ok && !next.left(r, core) && !yield(next) {
@@ -287,6 +332,31 @@ func (r *run) successors() iter.Seq[*run] {
 			}
 		}
 	}
+}
+
+// ways: of an access all ways to go, if these are its alone, and there will be no others: nothing else has to be tried ahead of them.
+func (r *run) ways(core int) []*run {
+	step := waiting(&r.w[core])
+	if step < 0 || r.pending(core) {
+		return nil
+	}
+	fixed, kept := r.fixed(core, r.w[core].Steps[step].VA)
+	if !fixed {
+		return nil
+	}
+	picks := binds(r.t.Cores[core].Space, core, &r.s.Cores[core], &r.w[core])
+	if !kept {
+		picks = append(picks, api.Pick{Kind: api.PickOwn, Core: core, Step: step})
+	}
+	var list []*run
+	for _, p := range picks {
+		next, ok := r.tried(p)
+		if !ok { // an own walk has to wait
+			return nil
+		}
+		list = append(list, next)
+	}
+	return list
 }
 
 // guesses: the ways behind a branch whose way isn't known.
@@ -307,8 +377,10 @@ func (r *run) guesses(core int) []*run {
 func (r *run) tries(core int) []api.Pick {
 	c, w := &r.s.Cores[core], &r.w[core]
 	list := binds(r.t.Cores[core].Space, core, c, w)
-	if n := waiting(w); n >= 0 && !r.fixed(core, w.Steps[n].VA) {
-		list = append(list, api.Pick{Kind: api.PickOwn, Core: core, Step: n})
+	if n := waiting(w); n >= 0 {
+		if fixed, kept := r.fixed(core, w.Steps[n].VA); !fixed || !kept {
+			list = append(list, api.Pick{Kind: api.PickOwn, Core: core, Step: n})
+		}
 	}
 	list = append(list, acts(core, c, w)...)
 	return append(list, drops(core, c)...)
