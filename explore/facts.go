@@ -106,3 +106,27 @@ func (f facts) tables(t api.Test, begin func(uint64) uint64) table {
 	}
 	return x
 }
+
+// changes: may a core change what others walk by: a cell that walks read, or their buffers?
+func (f facts) changes(core, flushes int, x table) bool {
+	if flushes&^(1<<core) != 0 {
+		return true
+	}
+	for a, by := range f.cells {
+		if by.writes>>core&1 == 1 && x.cells[a] > 0 {
+			return true
+		}
+	}
+	return false
+}
+
+// apart: does nothing that one core does ever meet what another one does, if neither changes what the other one walks by?
+func (f facts) apart(k, core int) bool {
+	for _, by := range f.cells {
+		one, other := by.writes>>k&1, by.writes>>core&1
+		if one == 1 && (by.reads|by.writes)>>core&1 == 1 || other == 1 && by.reads>>k&1 == 1 {
+			return false
+		}
+	}
+	return true
+}

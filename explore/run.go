@@ -314,24 +314,81 @@ func (r *run) successors() iter.Seq[*run] {
 			}
 		}
 		for core := range r.w {
-			if list := r.ways(core); len(list) > 0 {
-				for _, next := range list {
-					if !yield(next) {
-						return
-					}
+			list := r.ways(core)
+			if len(list) == 0 && r.first(core) {
+				list = r.all(r.mine(core))
+			}
+			for _, next := range list {
+				if !yield(next) {
+					return
 				}
+			}
+			if len(list) > 0 {
 				return
 			}
 		}
 		for core := range r.w {
-			for _, p := range r.tries(core) {
-				next, ok := r.tried(p)
-				if ok && !next.left(r, core) && !yield(next) {
+			for _, next := range r.all(r.tries(core)) {
+				if !yield(next) {
 					return
 				}
 			}
 		}
 	}
+}
+
+// all: the states behind picks, but for what is behind a wrong guess.
+func (r *run) all(picks []api.Pick) []*run {
+	var list []*run
+	for _, p := range picks {
+		if next, ok := r.tried(p); ok && !next.left(r, p.Core) {
+			list = append(list, next)
+		}
+	}
+	return list
+}
+
+// mine: all picks of a core, and the invalidations that may come to it.
+func (r *run) mine(core int) []api.Pick {
+	list := r.tries(core)
+	for k := range r.w {
+		if k == core {
+			continue
+		}
+		for _, p := range drops(k, &r.s.Cores[k]) {
+			if p.Arg == core {
+				list = append(list, p)
+			}
+		}
+	}
+	return list
+}
+
+// first: may a core go ahead of all others, since nothing that these do ahead of it can meet what it does now?
+func (r *run) first(core int) bool {
+	for k := range r.w {
+		if k != core && !r.apart[k][core] && !over(&r.s.Cores[k], &r.w[k]) && (r.changes[core] || !r.waitsFor(k, core)) {
+			return false
+		}
+	}
+	return true
+}
+
+// waitsFor: is all that a core has yet to do behind a Dsb that waits for an invalidation to come to another one?
+func (r *run) waitsFor(k, core int) bool {
+	c, w := &r.s.Cores[k], &r.w[k]
+	waits := false
+	for i := range w.Steps {
+		x := &w.Steps[i]
+		if waits && x.Instr.Op == api.Dsb {
+			return true
+		}
+		if x.Acts() && !acted(c, i) {
+			return false
+		}
+		waits = waits || i < len(c.Left) && slices.Contains(c.Left[i], core)
+	}
+	return false
 }
 
 // ways: of an access all ways to go, if these are its alone, and there will be no others: nothing else has to be tried ahead of them.
