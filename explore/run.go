@@ -157,13 +157,19 @@ func (r *run) fixed(core int, va uint64) (bool, bool) {
 	if r.facts.pages[int(va>>api.PageBits)]>>core&1 == 0 || r.written(a) || r.written(b) {
 		return false, false
 	}
+	return true, r.kept(core, va)
+}
+
+// kept: has a core's buffer an entry for what an address is led to now?
+func (r *run) kept(core int, va uint64) bool {
+	a, b := slots(r.t, core, va, r.s.Memory.Read)
 	first, last := r.s.Memory.Read(a), r.s.Memory.Read(b)
 	for _, e := range r.s.Cores[core].Buffer.Serving(r.t.Cores[core].Space, va) {
 		if e.First == first && (e.Last == last || e.Last == 0) {
-			return true, true
+			return true
 		}
 	}
-	return true, false
+	return false
 }
 
 // pending: may an invalidation yet come to a core while its last access waits? Those behind that access can't: they aren't fetched ahead of its entry.
@@ -244,8 +250,67 @@ func (r *run) now(core, step int) bool {
 		return true
 	case x.Reads():
 		return !r.branches[core] && r.alone(core, x.Addr, false)
+	case !x.Writes() || r.table.written || !r.alone(core, x.Addr, true):
+		return false
 	}
-	return x.Writes() && !r.table.written && r.table.cells[x.Addr] == 0 && r.alone(core, x.Addr, true)
+	return r.table.cells[x.Addr] == 0 || r.takesAway(core, step)
+}
+
+// takesAway: is a store to a second descriptor one that leaves all that others may do? They have the entries of what it replaces, and no invalidation comes to them ahead of it; nobody's own walk finds anything before it.
+func (r *run) takesAway(core, step int) bool {
+	cell := r.w[core].Steps[step].Addr
+	for k := range r.w {
+		if bound(&r.w[k]) {
+			continue
+		}
+		for _, page := range r.pages[k] {
+			va := uint64(page) << api.PageBits
+			a, b := slots(r.t, k, va, r.begin.Memory.Read)
+			if a == cell {
+				return false
+			}
+			if b != cell {
+				continue
+			}
+			r.walk(k)
+			if !r.spared(core, step, k) || !r.kept(k, va) {
+				return false
+			}
+		}
+	}
+	return true
+}
+
+// spared: does no invalidation come to a core ahead of a store?
+func (r *run) spared(core, step, to int) bool {
+	for k := range r.w {
+		if r.flushes[k]>>to&1 == 0 {
+			continue
+		}
+		for _, left := range r.s.Cores[k].Left {
+			if slices.Contains(left, to) {
+				return false
+			}
+		}
+		if k != core && !over(&r.s.Cores[k], &r.w[k]) || k == core && !r.fenced(core, step) {
+			return false
+		}
+	}
+	return true
+}
+
+// fenced: are all invalidations of a core that haven't acted behind a Dsb that is behind a step?
+func (r *run) fenced(core, step int) bool {
+	c, w := &r.s.Cores[core], &r.w[core]
+	for i := range w.Steps {
+		switch op := w.Steps[i].Instr.Op; {
+		case op == api.Tlbi && !acted(c, i):
+			return false
+		case op == api.Dsb && i > step:
+			return true
+		}
+	}
+	return w.End
 }
 
 // actNow: all steps that may act as soon as they can.
@@ -341,11 +406,24 @@ func (r *run) successors() iter.Seq[*run] {
 func (r *run) all(picks []api.Pick) []*run {
 	var list []*run
 	for _, p := range picks {
-		if next, ok := r.tried(p); ok && !next.left(r, p.Core) {
+		if next, ok := r.whole(p); ok && !next.left(r, p.Core) {
 			list = append(list, next)
 		}
 	}
 	return list
+}
+
+// whole: the run behind a pick; of an own walk whose first descriptor isn't written any more, behind both its halves, if it finds something.
+func (r *run) whole(p api.Pick) (*run, bool) {
+	next, ok := r.tried(p)
+	if !ok || p.Kind != api.PickOwn {
+		return next, ok
+	}
+	a, _ := slots(r.t, p.Core, r.w[p.Core].Steps[p.Step].VA, r.begin.Memory.Read)
+	if r.written(a) || waiting(&next.w[p.Core]) < 0 {
+		return next, true
+	}
+	return next, next.do(p) && waiting(&next.w[p.Core]) < 0
 }
 
 // mine: all picks of a core, and the invalidations that may come to it.
@@ -407,7 +485,7 @@ func (r *run) ways(core int) []*run {
 	}
 	var list []*run
 	for _, p := range picks {
-		next, ok := r.tried(p)
+		next, ok := r.whole(p)
 		if !ok { // an own walk has to wait
 			return nil
 		}
