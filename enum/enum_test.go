@@ -175,3 +175,15 @@ func known(t *testing.T, test api.Test, c axiom.Candidate, runs [][][]trace.Answ
 		}
 	}
 }
+
+func TestChanges(t *testing.T) { // P21.3: of tables that are changed
+	for seed := range uint64(60) {
+		text := sample.Change(seed+500, 1+int(seed%3))
+		test := read(t, text)
+		list, e := Outcomes(test, 20000)
+		r, f := explore.Explore(test, 20000)
+		if e == api.OK && f == api.OK && !slices.Equal(texts(list), texts(r.Outcomes)) {
+			t.Fatalf("seed %d: %v, not %v: %s", seed, texts(list), texts(r.Outcomes), text)
+		}
+	}
+}

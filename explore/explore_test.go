@@ -126,6 +126,28 @@ func TestSamples(t *testing.T) { // P20.1: just what any picks come to
 	}
 }
 
+func TestChanges(t *testing.T) { // P20.1: of tables that are changed
+	done := 0
+	for seed := range uint64(40) {
+		text := sample.Change(seed, 1)
+		test := read(t, text)
+		r, e := Explore(test, api.MaxStates)
+		if e != api.OK {
+			t.Fatalf("seed %d: %d", seed, e)
+		}
+		if check(t, test, r, 2500) {
+			done++
+		}
+		if t.Failed() {
+			t.Fatalf("seed %d: %s", seed, text)
+		}
+	}
+	t.Logf("%d held against all picks", done)
+	if done < 5 {
+		t.Errorf("only %d held against all picks", done)
+	}
+}
+
 const one = `test a
 table 0x1000
 cell 0x1000 = block 0

@@ -151,10 +151,15 @@ func (r *run) written(a uint64) bool {
 	return false
 }
 
-// fixed: is what an address is led to by the tables never written any more? (As far as it was walked for.) And is there an entry for that?
+// walking: has a core an own walk under way?
+func (r *run) walking(core int) bool {
+	return slices.ContainsFunc(r.s.Cores[core].Own, func(x machine.Own) bool { return x.Open })
+}
+
+// fixed: is what an address is led to by the tables never written any more? (As far as it was walked for; an own walk under way may have begun ahead of the last write.) And is there an entry for that?
 func (r *run) fixed(core int, va uint64) (bool, bool) {
 	a, b := slots(r.t, core, va, r.s.Memory.Read)
-	if r.facts.pages[int(va>>api.PageBits)]>>core&1 == 0 || r.written(a) || r.written(b) {
+	if r.walking(core) || r.facts.pages[int(va>>api.PageBits)]>>core&1 == 0 || r.written(a) || r.written(b) {
 		return false, false
 	}
 	return true, r.kept(core, va)
@@ -213,7 +218,11 @@ func (r *run) bindNow(core int) bool {
 	case !fixed:
 		return false
 	case len(list) == 0:
-		return r.do(api.Pick{Kind: api.PickOwn, Core: core, Step: step})
+		other, ok := r.whole(api.Pick{Kind: api.PickOwn, Core: core, Step: step})
+		if ok {
+			*r = *other
+		}
+		return ok
 	case len(list) > 1 || !kept:
 		return false
 	case !r.pending(core):
@@ -416,7 +425,7 @@ func (r *run) all(picks []api.Pick) []*run {
 // whole: the run behind a pick; of an own walk whose first descriptor isn't written any more, behind both its halves, if it finds something.
 func (r *run) whole(p api.Pick) (*run, bool) {
 	next, ok := r.tried(p)
-	if !ok || p.Kind != api.PickOwn {
+	if !ok || p.Kind != api.PickOwn || r.walking(p.Core) {
 		return next, ok
 	}
 	a, _ := slots(r.t, p.Core, r.w[p.Core].Steps[p.Step].VA, r.begin.Memory.Read)

@@ -69,3 +69,26 @@ func Text(seed uint64, cores, length int) string {
 	}
 	return text + "exists true\n"
 }
+
+// Change is a test of a core that changes a page's descriptor, more or less as it should, and of so many that load by it.
+func Change(seed uint64, readers int) string {
+	d := &dice{seed: seed}
+	text := "test change\n" + begin + "cell 0x2028 = " + d.of("page 0x9000", "page 0x9000", "page 0x9000 own", "0") + "\ncore 0 table 0x1000\n" + regs
+	for _, row := range []string{"STR XZR,[X2]", "DSB SY", d.of("TLBI VMALLE1IS", "TLBI VMALLE1IS", "TLBI VAE1IS,X6", "TLBI VAAE1IS,X6", "TLBI VMALLE1"), "DSB SY", d.of("STR X5,[X2]", "STR X5,[X2]", "LDR X7,[X1]"), d.of("DSB SY", "DMB SY", "NOP"), "STR X8,[X4]"} {
+		switch d.below(8) {
+		case 0:
+		case 1:
+			text += d.of("ISB", "DMB ST", "LDR X9,[X1]", "STR X5,[X2]", "TLBI VMALLE1IS") + "\n"
+		default:
+			text += row + "\n"
+		}
+	}
+	for i := range readers {
+		text += "core " + field.Int(i+1) + " table 0x1000\n" + regs
+		for range 1 + d.below(4) {
+			text += d.of("LDR X7,[X1]", "LDR X9,[X1]", "LDR X10,[X4]", "DSB SY", "STR X8,[X1]", "CBZ X10,.+1", "ISB", "DMB LD", "TLBI VMALLE1", "STR X8,[X3]") + "\n"
+		}
+		text += "NOP\n" + d.of("", "handler\nERET\n", "handler\nLDR X14,[X3]\n")
+	}
+	return text + "exists true\n"
+}
