@@ -187,3 +187,12 @@ func TestChanges(t *testing.T) { // P21.3: of tables that are changed
 		}
 	}
 }
+
+func TestOwnUnderWay(t *testing.T) { // P21.3: an own walk that began ahead of the last write to a first descriptor
+	test := read(t, sample.Text(1000595, 3, 6))
+	list, e := Outcomes(test, 20000)
+	r, f := explore.Explore(test, 20000)
+	if e != api.OK || f != api.OK || len(list) != 40 || !slices.Equal(texts(list), texts(r.Outcomes)) {
+		t.Errorf("%d outcomes, and %d; %d, %d", len(list), len(r.Outcomes), e, f)
+	}
+}
