@@ -188,11 +188,107 @@ func TestChanges(t *testing.T) { // P21.3: of tables that are changed
 	}
 }
 
-func TestOwnUnderWay(t *testing.T) { // P21.3: an own walk that began ahead of the last write to a first descriptor
-	test := read(t, sample.Text(1000595, 3, 6))
-	list, e := Outcomes(test, 20000)
-	r, f := explore.Explore(test, 20000)
-	if e != api.OK || f != api.OK || len(list) != 40 || !slices.Equal(texts(list), texts(r.Outcomes)) {
-		t.Errorf("%d outcomes, and %d; %d, %d", len(list), len(r.Outcomes), e, f)
+// ownUnderWay: an own walk may begin ahead of the last write to a first descriptor, and go on behind it.
+const ownUnderWay = `test sample
+table 0x1000
+table 0x2000
+cell 0x1000 = to 0x2000
+cell 0x1008 = block 0
+cell 0x2030 = page 0x9000
+cell 0x9000 = 3
+cell 0x2028 = page 0x9000 unused
+core 0 table 0x1000
+reg X1 = 0x5000
+reg X2 = 0x202028
+reg X4 = 0x20a000
+reg X5 = page 0xa000
+reg X8 = 1
+LDR X7,[X1]
+STLR X8,[X4]
+EOR X11,X7,X7
+STR X5,[X2]
+DSB SY
+STR XZR,[X2]
+handler
+MRS X13,ESR_EL1
+ERET
+core 1 space 7 table 0x1000
+reg X1 = 0x5000
+reg X4 = 0x20a000
+reg X6 = 5
+reg X16 = 0x201000
+LDR X12,[X6]
+STR X7,[X4]
+STR XZR,[X16]
+TLBI ASIDE1IS,X7
+DMB SY
+LDR X7,[X1]
+handler
+MRS X13,ESR_EL1
+ERET
+core 2 table 0x1000
+reg X1 = 0x5000
+reg X3 = 0x209000
+reg X6 = 5
+reg X8 = 1
+LDAR X7,[X3]
+ADD X1,X1,X11
+LDR X12,[X6]
+STR X8,[X3]
+ISB
+STR X8,[X1]
+handler
+MRS X13,ESR_EL1
+LDR X14,[X3]
+ERET
+exists true
+`
+
+// halfUnderWay: so may the first half of a walk.
+const halfUnderWay = `test sample
+table 0x1000
+table 0x2000
+cell 0x1000 = to 0x2000
+cell 0x1008 = block 0
+cell 0x2030 = page 0x9000
+cell 0x9000 = 3
+cell 0x2028 = page 0x9000
+core 0 space 7 table 0x1000
+reg X1 = 0x5000
+reg X2 = 0x202028
+reg X3 = 0x209000
+reg X4 = 0x20a000
+reg X5 = page 0xa000
+reg X6 = 5
+reg X8 = 1
+LDR X12,[X6]
+CBNZ X9,.+3
+STR X8,[X1]
+STR X5,[X2]
+LDR X10,[X4]
+STR X8,[X1]
+handler
+LDR X14,[X3]
+ERET
+core 1 space 7 table 0x1000
+reg X15 = block 0
+reg X16 = 0x201000
+CMP X7,X9
+DSB SY
+STR X15,[X16]
+CBZ X7,.+3
+DSB SY
+EOR X11,X7,X7
+exists true
+`
+
+func TestUnderWay(t *testing.T) { // P21.3
+	for text, want := range map[string]int{ownUnderWay: 40, halfUnderWay: 5} {
+		test := read(t, text)
+		list, e := Outcomes(test, 20000)
+		r, f := explore.Explore(test, 20000)
+		if e != api.OK || f != api.OK || len(list) != want || !slices.Equal(texts(list), texts(r.Outcomes)) {
+			t.Errorf("%d outcomes, and %d; %d, %d: %s", len(list), len(r.Outcomes), e, f, text)
+		}
 	}
 }

@@ -85,11 +85,15 @@ type table struct {
 	written bool
 }
 
-// slots: the cells of both descriptors of an address, if the first one isn't written, and leads to a table.
-func slots(t api.Test, core int, va uint64, begin func(uint64) uint64) (uint64, uint64) {
+// second: the cell of an address's second descriptor, if the first one leads to a table.
+func second(first, va uint64) uint64 {
+	return field.Get(first, api.PABits-1, api.PageBits)<<api.PageBits + 8*uint64(field.Slot(va, 2))
+}
+
+// slots: the cells of both descriptors of an address, by what cells hold.
+func slots(t api.Test, core int, va uint64, held func(uint64) uint64) (uint64, uint64) {
 	first := t.Cores[core].Table + 8*uint64(field.Slot(va, 1))
-	out := field.Get(begin(first), api.PABits-1, api.PageBits) << api.PageBits
-	return first, out + 8*uint64(field.Slot(va, 2))
+	return first, second(held(first), va)
 }
 
 // tables: by facts.
@@ -107,13 +111,13 @@ func (f facts) tables(t api.Test, begin func(uint64) uint64) table {
 	return x
 }
 
-// changes: may a core change what others walk by: a cell that walks read, or their buffers?
+// changes: may a core change what others walk by: a cell that walks read (any cell, if first descriptors are written), or their buffers?
 func (f facts) changes(core, flushes int, x table) bool {
 	if flushes&^(1<<core) != 0 {
 		return true
 	}
 	for a, by := range f.cells {
-		if by.writes>>core&1 == 1 && x.cells[a] > 0 {
+		if by.writes>>core&1 == 1 && (x.written || x.cells[a] > 0) {
 			return true
 		}
 	}

@@ -156,10 +156,17 @@ func (r *run) walking(core int) bool {
 	return slices.ContainsFunc(r.s.Cores[core].Own, func(x machine.Own) bool { return x.Open })
 }
 
-// fixed: is what an address is led to by the tables never written any more? (As far as it was walked for; an own walk under way may have begun ahead of the last write.) And is there an entry for that?
+// begun: may a walk for an address that began ahead of the last write to its first descriptor yet find what isn't there yet?
+func (r *run) begun(core int, va uint64) bool {
+	return slices.ContainsFunc(r.s.Cores[core].Walks, func(x machine.Walk) bool {
+		return x.VA>>api.PageBits == va>>api.PageBits && r.written(second(x.First, va))
+	})
+}
+
+// fixed: is what an address is led to by the tables never written any more, as far as it was walked for, and no walk under way that may have begun ahead of the last write? And is there an entry for that?
 func (r *run) fixed(core int, va uint64) (bool, bool) {
 	a, b := slots(r.t, core, va, r.s.Memory.Read)
-	if r.walking(core) || r.facts.pages[int(va>>api.PageBits)]>>core&1 == 0 || r.written(a) || r.written(b) {
+	if r.facts.pages[int(va>>api.PageBits)]>>core&1 == 0 || r.written(a) || r.written(b) || r.walking(core) || r.begun(core, va) {
 		return false, false
 	}
 	return true, r.kept(core, va)
