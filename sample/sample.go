@@ -24,13 +24,15 @@ func (d *dice) of(list ...string) string { return list[d.below(len(list))] }
 // begin is what all tests begin with: a table whose first entry leads to another one, and whose second one is a block over all memory. The page 0x5000 is at 0x9000, its entry at 0x2028.
 const begin = `table 0x1000
 table 0x2000
+table 0x3000
 cell 0x1000 = to 0x2000
 cell 0x1008 = block 0
 cell 0x2030 = page 0x9000
+cell 0x3028 = page 0xa000
 cell 0x9000 = 3
 `
 
-// regs are what each core begins with: X1 to X4 the addresses of a page, of its entry, of what the page leads to, of another cell; X5 another descriptor; X6 the page for TLBI; X8 a number; X15 a block for the first entry of the first table, X16 the address of that.
+// regs are what each core begins with: X1 to X4 the addresses of a page, of its entry, of what the page leads to, of another cell; X5 another descriptor; X6 the page for TLBI; X8 a number; X15 a block for the first entry of the first table, X16 the address of that, X17 another table for it, X18 the address of the page's entry there.
 const regs = `reg X1 = 0x5000
 reg X2 = 0x202028
 reg X3 = 0x209000
@@ -40,6 +42,8 @@ reg X6 = 5
 reg X8 = 1
 reg X15 = block 0
 reg X16 = 0x201000
+reg X17 = to 0x3000
+reg X18 = 0x203028
 `
 
 // code: an instruction of a core of which so many are left.
@@ -47,7 +51,7 @@ func code(d *dice, left int) string {
 	row := d.of("STR XZR,[X2]", "STR X5,[X2]", "LDR X7,[X1]", "LDR X7,[X1]", "STR X8,[X1]", "LDR X9,[X3]", "STR X8,[X3]", "LDR X10,[X4]", "STR X8,[X4]",
 		"DSB SY", "DSB SY", "DMB SY", "DMB LD", "DMB ST", "ISB", "TLBI VMALLE1IS", "TLBI VAE1IS,X6", "TLBI VAAE1,X6", "LDAR X7,[X3]", "STLR X8,[X4]",
 		"EOR X11,X7,X7", "ADD X1,X1,X11", "STR X7,[X4]", "LDR X12,[X6]", "CBZ X7,.+", "CBNZ X9,.+", "CMP X7,X9", "B.EQ .+", "TLBI ASIDE1IS,X7",
-		"STR XZR,[X16]", "STR X15,[X16]")
+		"STR XZR,[X16]", "STR X15,[X16]", "STR X17,[X16]", "STR XZR,[X18]")
 	if strings.HasSuffix(row, "+") {
 		row += field.Int(1 + d.below(left))
 	}
