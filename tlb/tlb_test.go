@@ -57,11 +57,60 @@ func TestServes(t *testing.T) { // P9.1
 		{fill(t, 1, 0x201010, block, 0), 1, 0x1fffff, false, false},
 		{api.Entry{Page: 0x200000}, 0, 0x201000, false, false},
 		{api.Entry{Page: 0x200000, First: table}, 0, 0x201000, false, false},
-		{api.Entry{Page: 0x1000, First: block}, 0, 0x1008, true, true},
+		{api.Entry{Page: 0x1000, First: block}, 0, 0x1008, false, false},
+		{api.Entry{Page: 0x1000, First: block}, 0, 0x8, false, false},
+		{api.Entry{Page: 0x201000, First: mine}, 0, 0x201000, false, false},
+		{api.Entry{Page: 0x1000, First: block | 1<<32}, 0, 0x1008, true, true},
+		{api.Entry{Page: 0x1000, First: block &^ 1}, 0, 0x1008, true, true},
+		{api.Entry{Page: 0x1000, First: table}, 0, 0x1008, true, true},
+		{api.Entry{First: block}, 0, 0x1fffff, true, true},
+		{api.Entry{First: table}, 0, 0x1000, false, false},
+		{api.Entry{Page: 1<<64 - 1<<21, First: block}, 0, math.MaxUint64, true, true},
+		{api.Entry{Page: 1<<64 - 1<<12, First: block}, 0, math.MaxUint64, false, false},
 		{api.Entry{Page: 0x1008}, 0, 0x1008, false, false},
 	} {
 		if Covers(c.e, c.va) != c.covers || Serves(c.e, c.space, c.va) != c.serves {
 			t.Errorf("%+v for %d %x", c.e, c.space, c.va)
+		}
+	}
+}
+
+func TestBlockAtPage(t *testing.T) { // P9.1, P9.2, P9.3: a block's entry that isn't at a block's first byte
+	for _, first := range []uint64{block, mine, 33, 2785873, 5071273, 1350567041} {
+		for _, last := range []uint64{0, page, spaced} {
+			e := api.Entry{Page: 0x1000, First: first, Last: last}
+			var b Buffer
+			b = b.With(e)
+			for _, va := range []uint64{0, 0xfff, 0x1000, 0x1fff, 0x2000, 0x200000, 0x201000} {
+				if Covers(e, va) || Serves(e, 0, va) || len(b.Serving(0, va)) != 0 {
+					t.Errorf("%+v has %x", e, va)
+				}
+				for _, kind := range []int{api.TlbiVA, api.TlbiVAA} {
+					f := api.Flush{Kind: kind, Page: va}
+					if Takes(f, e) || !b.Drop(f).Has(e) {
+						t.Errorf("%+v takes %+v", f, e)
+					}
+				}
+			}
+			if !Takes(api.Flush{}, e) || b.Drop(api.Flush{}).Len() != 0 {
+				t.Errorf("an invalidation of all leaves %+v", e)
+			}
+		}
+	}
+}
+
+func TestCoversOne(t *testing.T) { // P9.1: of all pages one is covered, by an entry of a block those of one block
+	for _, c := range []struct {
+		first uint64
+		size  uint64
+	}{{0, 1}, {table, 1}, {block &^ 1, 1}, {block | 1<<47, 1}, {block, 512}, {mine, 512}, {block | 1<<48, 512}} {
+		for p := range uint64(1100) {
+			e := api.Entry{Page: p << 12, First: c.first}
+			for q := range uint64(1100) {
+				if got := Covers(e, q<<12|0xabc); got != (q/c.size*c.size == p) {
+					t.Fatalf("Covers of %+v and page %d: %v", e, q, got)
+				}
+			}
 		}
 	}
 }
